@@ -5,7 +5,8 @@ from fractions import Fraction
 from itertools import product
 from math import gcd
 
-from written import LARGEST, alike, ask, begin, count, gap, last, look, rate, rule, which
+from written import (LARGEST, Keeping, alike, begin, by_heads, count, filled, gap, last, rate, rule, seen, which,
+                     written_fraction)
 
 # Group 0: chosen 3 so and 1 not so, left 2 so and 6 not so. Group 1: chosen 2 and 2, left 1 and 3.
 SOME = [begin(2), count(0, 0, 2, 6), count(0, 1, 3, 1), count(1, 0, 2, 2), count(1, 1, 1, 3),
@@ -13,10 +14,6 @@ SOME = [begin(2), count(0, 0, 2, 6), count(0, 1, 3, 1), count(1, 0, 2, 2), count
 
 # All in group 0, nobody in group 1.
 ALONE = [begin(2), count(0, 0, 2, 6), count(0, 1, 3, 1), rule(0, [0, 1]), rule(1, [0, 1])]
-
-
-def seen(before, *calls):
-    return ask(*before, *calls)[len(before):]
 
 
 def rates(before, g):
@@ -144,12 +141,20 @@ class Which(unittest.TestCase):
                          [7, 0, 1, 2, 3, 4, 5, 6])
 
 
-class Asking(unittest.TestCase):
+class Asking(Keeping):
     def test_changes_nothing(self):
         asked = [rate(0, 0), rate(4, 1), rate(7, 0), rate(0, 2), alike(5), alike(7), gap(3), gap(7), which()]
         for before in (SOME, ALONE, [begin(3)]):
-            shown = seen(before, *look())
-            self.assertEqual(seen(before, *asked, *look())[len(asked):], shown)
+            self.kept(before, asked)
+
+    def test_refused_changes_nothing(self):
+        for q in (7, LARGEST):
+            for call in (rate(q, 0), alike(q), gap(q)):
+                self.refused(SOME, call, -22)
+        for g in (2, LARGEST):
+            self.refused(SOME, rate(0, g), -2)
+        for call in (rate(1, 1), alike(1), gap(1)):
+            self.refused(ALONE, call, -33)
 
 
 class Corners(unittest.TestCase):
@@ -218,34 +223,6 @@ class Corners(unittest.TestCase):
         self.assertEqual(last(*before, which()), [6, 0, 1, 2, 3, 4, 6])
 
 
-def told_of(people, wanted, among):
-    """Of the people among whom we look, the share of those who are wanted; None if there are none."""
-    those = [person for person in people if among(person)]
-    if not those:
-        return None
-    return Fraction(len([person for person in those if wanted(person)]), len(those))
-
-
-def by_heads(cells, row):
-    """The seven rates of a group, counted person by person: each is (chosen, turned out so)."""
-    people = []
-    for (y, n), mark in zip(cells, row):
-        people += [(mark == 1, True)] * y + [(mark == 1, False)] * n
-    return [
-        told_of(people, lambda p: p[1], lambda p: True),
-        told_of(people, lambda p: p[0], lambda p: True),
-        told_of(people, lambda p: p[0], lambda p: p[1]),
-        told_of(people, lambda p: p[0], lambda p: not p[1]),
-        told_of(people, lambda p: p[1], lambda p: p[0]),
-        told_of(people, lambda p: not p[1], lambda p: not p[0]),
-        told_of(people, lambda p: p[0] == p[1], lambda p: True),
-    ]
-
-
-def written_fraction(fraction):
-    return [-33] if fraction is None else [0, fraction.numerator, fraction.denominator]
-
-
 def expected(first, second):
     """What rate, alike, gap and which are to answer for two groups with these rates."""
     both = [None if a is None or b is None else a - b for a, b in zip(first, second)]
@@ -262,12 +239,9 @@ class CountedByHeads(unittest.TestCase):
 
     def tried(self, tables, rules):
         """Tries each rule on each table, a table being for each group its pairs of so and not so."""
-        k = len(tables[0][0])
         for table in tables:
-            people = [count(g, s, *table[g][s]) for g in range(2) for s in range(k)]
             for rows in rules:
-                before = [begin(k)] + people + [rule(g, list(rows[g])) for g in range(2)]
-                told = seen(before, *self.asked)
+                told = seen(filled(table, rows), *self.asked)
                 first, second = [by_heads(table[g], rows[g]) for g in range(2)]
                 self.assertEqual(told, expected(first, second), (table, rows))
                 self.held(told)

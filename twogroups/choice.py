@@ -17,10 +17,22 @@ RATE = 3
 ALIKE = 4
 GAP = 5
 WHICH = 6
+BEST = 7
+TAKE = 8
+ABOVE = 9
+CELL = 10
+PEOPLE = 11
+IFPICK = 12
 
 # How many whole numbers stand behind each call's number, ahead of its row: from begin to state.
-# The calls that aren't answered yet are here too: ahead of a begin they are refused like all others.
 ARGUMENTS = (1, 4, 1, 2, 1, 1, 0, 0, 0, 2, 2, 1, 3, 0)
+
+
+def told_fraction(fraction):
+    """What is answered for a rate that is there as a fraction, or isn't there, being None."""
+    if fraction is None:
+        return [NOT_THERE]
+    return [0, fraction[0], fraction[1]]
 
 
 def count(table, group, score, so, not_so):
@@ -46,10 +58,7 @@ def rate(table, kind, group):
         return [NO_SUCH]
     if kind >= KINDS:
         return [NOT_RIGHT]
-    fraction = table.rate(kind, group)
-    if fraction is None:
-        return [NOT_THERE]
-    return [0, fraction[0], fraction[1]]
+    return told_fraction(table.rate(kind, group))
 
 
 def alike(table, kind):
@@ -65,13 +74,60 @@ def gap(table, kind):
         return [NOT_RIGHT]
     if not table.has_both(kind):
         return [NOT_THERE]
-    fraction = difference(table.rate(kind, 0), table.rate(kind, 1))
-    return [0, fraction[0], fraction[1]]
+    return told_fraction(difference(table.rate(kind, 0), table.rate(kind, 1)))
 
 
 def which(table):
     kinds = [kind for kind in range(KINDS) if table.is_alike(kind)]
     return [len(kinds)] + kinds
+
+
+def best(table):
+    found = table.best_rule()
+    if found is None:
+        return [NOT_THERE]
+    return [found[0]] + found[1] + found[2]
+
+
+def take(table):
+    found = table.best_rule()
+    if found is None:
+        return [NOT_THERE]
+    table.set_row(0, found[1])
+    table.set_row(1, found[2])
+    return [found[0]]
+
+
+def above(table, group, score):
+    if not table.has_cell(group, score):
+        return [NO_SUCH]
+    table.set_row(group, [1 if at >= score else 0 for at in range(table.scores)])
+    return [table.chosen_people(group)]
+
+
+def cell(table, group, score):
+    if not table.has_cell(group, score):
+        return [NO_SUCH]
+    return [table.so[group][score], table.not_so[group][score]]
+
+
+def people(table, group):
+    if not table.has_group(group):
+        return [NO_SUCH]
+    all_so = sum(table.so[group])
+    return [all_so + sum(table.not_so[group]), all_so]
+
+
+def ifpick(table, group, score, kind):
+    if not table.has_cell(group, score):
+        return [NO_SUCH]
+    if kind >= KINDS:
+        return [NOT_RIGHT]
+    return told_fraction(table.rate_if_flipped(kind, group, score))
+
+
+def state(table):
+    return [table.scores] + table.rows[0] + table.rows[1]
 
 
 def answer_begun(table, call):
@@ -90,7 +146,20 @@ def answer_begun(table, call):
         return gap(table, call[1])
     if number == WHICH:
         return which(table)
-    raise NotImplementedError("this call is not answered yet")
+    if number == BEST:
+        return best(table)
+    if number == TAKE:
+        return take(table)
+    if number == ABOVE:
+        return above(table, call[1], call[2])
+    if number == CELL:
+        return cell(table, call[1], call[2])
+    if number == PEOPLE:
+        return people(table, call[1])
+    if number == IFPICK:
+        return ifpick(table, call[1], call[2], call[3])
+    # Of the calls that are handed in only state is left.
+    return state(table)
 
 
 class Session:
